@@ -1,0 +1,40 @@
+"""What is asked of the program: a text is read."""
+
+from strictask.commands import command
+from strictask.cursor import Cursor
+from strictask.lexemes import END
+from strictask.lexing import lexed
+from strictask.refusals import NotEnded
+from strictask.refusals import Refusal
+from strictask.refusals import TooDeep
+from strictask.trees import written
+
+MOST_BYTES = 65536
+MOST_TREE_DEPTH = 40
+
+
+def read(text):
+    """0 and the bytes of the written tree, or an error's number, its place, and the bytes of its word or sign."""
+    try:
+        tree = tree_of(text)
+    except Refusal as e:
+        return [e.number, e.place] + spelled_bytes(e.word)
+    return [0] + spelled_bytes(written(tree))
+
+
+def tree_of(text):
+    """The tree of the command that the text is."""
+    if len(text) > MOST_BYTES:
+        raise TooDeep(0)
+    cursor = Cursor(lexed(text))
+    tree = command(cursor)
+    if cursor.token.kind != END:
+        raise NotEnded(cursor.token.place)
+    if tree.depth > MOST_TREE_DEPTH:
+        raise TooDeep(0)
+    return tree
+
+
+def spelled_bytes(spelling):
+    """The bytes of a text of the program's own."""
+    return [ord(sign) for sign in spelling]

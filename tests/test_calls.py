@@ -1,0 +1,103 @@
+"""What holds for each call: what is handed in, what comes back, how long a text may be."""
+
+import inspect
+import sys
+import unittest
+
+from strictask.reading import read
+
+from answers import Checks, answer, as_bytes, ask, num
+
+TEXTS = (
+    "select a between 1 and 2, f(distinct $3) over (order by b) from t left join u on c where d limit 5",
+    "insert into t (a) values ('it''s', x'00ff', \"q\"\"q\")", "create table t (c exact(5, 2) not null default 1)",
+    "select 1 ^", "select", "select '", "(" * 41, "commit", "", "x", "drop t", "select a" + "+a" * 40,
+)
+
+
+class Calls(Checks, unittest.TestCase):
+    def test_what_is_handed_in_stays_as_it_was(self):
+        for text in TEXTS:
+            handed = list(as_bytes(text))
+            before = list(handed)
+            read(handed)
+            self.assertEqual(handed, before)
+
+    def test_a_list_of_whole_numbers_comes_back(self):
+        for text in TEXTS:
+            given = read(list(as_bytes(text)))
+            self.assertIs(type(given), list)
+            self.assertTrue(all(type(number) is int for number in given), text)
+            self.assertTrue(0 <= given[0] <= 9)
+            self.assertTrue(all(0 <= number <= 255 for number in given[1 if given[0] == 0 else 2:]))
+
+    def test_answers_number_by_number(self):
+        self.assertEqual(read(list(b"commit")), [0] + list(b"181()"))
+        self.assertEqual(read(list(b"drop t")), [5, 5] + list(b"table"))
+        self.assertEqual(read(list(b"f")), [7, 0])
+        self.assertEqual(read([]), [7, 0])
+
+    def test_a_call_answers_as_if_for_the_first_time(self):
+        first = [read(list(as_bytes(text))) for text in TEXTS]
+        for turn in range(3):
+            for text, given in reversed(list(zip(TEXTS, first))):
+                self.assertEqual(read(list(as_bytes(text))), given)
+
+    def test_what_came_back_is_the_callers_own(self):
+        handed = list(b"select 'a'")
+        given = read(handed)
+        wanted = list(given)
+        given.clear()
+        self.assertEqual(read(handed), wanted)
+
+    def test_a_text_of_65536_bytes_and_one_more(self):
+        self.tree("select 1".ljust(65536), ask(num(1)))
+        self.tree("select 1 " + "-" * 65527, ask(num(1)))
+        self.assertEqual(answer("select 1".ljust(65537)), (8, 0, ""))
+        self.assertEqual(answer(" " * 65536), (7, 65536, ""))
+        self.assertEqual(answer(" " * 65537), (8, 0, ""))
+        self.assertEqual(answer("select ".ljust(65536)), (2, 65536, ""))
+
+    def test_a_text_that_is_too_long_is_told_before_all_else(self):
+        for text in (b"!" * 65537, b"'" * 65537, b"\xff" * 100000, b"(" * 100000, b"a " * 50000,
+                     b"select 1" + b" " * 99992):
+            self.assertEqual(answer(text), (8, 0, ""))
+        self.assertEqual(answer(b"!" * 65536), (1, 0, ""))
+        self.assertEqual(answer(b" " * 65535 + b"!"), (1, 65535, ""))
+
+    def test_long_lists(self):
+        item = "149(128(18(1)) ')"
+        self.tree("select 1" + ",1" * 32764, f"160(144(0 145({' '.join([item] * 32765)}) 146() 147() 148() 147()))")
+        row = "164(128(18(1)))"
+        self.tree("insert into t values (1)" + ",(1)" * 16000, f"161('74 162() 163({' '.join([row] * 16001)}))")
+        self.tree("grant select" + ",insert" * 9000 + " on t to u", "178(3 '74 '75 0)")
+        self.tree("select case" + " when 1 then 1" * 4500 + " end",
+                  ask("138(" + "128(18(1)) 128(18(1)) " * 4500 + "128(16()))"))
+        self.tree("create table t (unique (a" + ",a" * 32000 + "))", "168('74 170(0 '61" + " '61" * 32000 + "))")
+
+    def test_long_tokens_and_blanks(self):
+        self.tree("select " + "0" * 65528 + "1", ask(num(1)))
+        self.tree("--\n" * 21800 + "commit", "181()")
+        self.wrong("select ^'" + "a" * 65000, 1)
+        self.wrong("select ^" + "a" * 65000, 1)
+        self.wrong("select ^'" + "''" * 32000, 1)
+        self.wrong("select ^$" + "1" * 65000, 1)
+        self.wrong("select ^1" + "." + "1" * 65000, 9)
+        self.wrong("select a.a^" + ".a" * 32000, 6)
+
+    def test_what_is_deepest_takes_some_hundred_calls(self):
+        """Python allows a thousand calls within one another, and some of them are the caller's."""
+        allowed = sys.getrecursionlimit()
+        sys.setrecursionlimit(len(inspect.stack()) + 600)
+        try:
+            for begin in ("(", "f(", "f() over (order by ", "(select ", "case when ", "exists (select "):
+                self.assertEqual(answer("select " + begin * 41)[0], 8)
+                self.assertEqual(answer("select " + ("1 or 1 and 1 = 1 || 1 + 1 * " + begin) * 41)[0], 8)
+            for begin in ("not ", "- ", "1 not in (", "1 or 1 in (", "1 from (select "):
+                self.assertEqual(answer("select " + begin * 41)[0], 8)
+        finally:
+            sys.setrecursionlimit(allowed)
+
+
+if __name__ == "__main__":
+    unittest.main()
