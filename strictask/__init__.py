@@ -1,1 +1,1 @@
-"""A query language, read strictly: a text is a command's tree, or the first place that is wrong is told."""
+"""A query language, read strictly and said again: a text is a command, or the first place that is wrong is told."""

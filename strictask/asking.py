@@ -2,6 +2,11 @@
 
 from strictask.lexemes import GIVEN
 from strictask.numerals import need_count
+from strictask.operators import COMPARED_LEVEL
+from strictask.operators import COMPARISON_LEVEL
+from strictask.operators import MINUS_LEVEL
+from strictask.operators import NOT_LEVEL
+from strictask.operators import OPERAND_LEVEL
 from strictask.operators import begins_comparison
 from strictask.operators import begins_match
 from strictask.operators import chain_of
@@ -13,12 +18,6 @@ from strictask.refusals import NotThis
 from strictask.trees import Node
 from strictask.values import need_kind
 from strictask.values import value
-
-NOT_LEVEL = 2
-COMPARISON_LEVEL = 3
-COMPARED_LEVEL = 4
-MINUS_LEVEL = 7
-OPERAND_LEVEL = 8
 
 
 def listed(cursor, member):

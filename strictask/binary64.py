@@ -1,4 +1,4 @@
-"""The bits of a binary64, found with whole numbers alone."""
+"""The bits of a binary64, and its digits, found with whole numbers alone."""
 
 # The bits of what is infinite: the highest exponent, and nothing behind it.
 INFINITE_BITS = 9218868437227405312
@@ -8,6 +8,12 @@ OVERFULL = 9007199254740992
 
 # The smallest number above 0 is 2 to the power of this, below 0.
 SMALLEST = 1074
+
+# Behind the exponent stand 52 bits; the leading one isn't among them.
+LEADING_BIT = 4503599627370496
+
+# 10 to the 17: the least number that seventeen digits don't hold.
+OVERFULL_DIGITS = 100000000000000000
 
 # With 36 digits at most, a power of ten beyond this one is infinite, or as near to 0 as none.
 FARTHEST_TENS = 400
@@ -29,9 +35,12 @@ def nearest_bits(whole, tens):
 def power_of_ten(tens):
     """10 to the tens, or 1 if they are below 0."""
     power = 1
+    square = 10
     while tens > 0:
-        power *= 10
-        tens -= 1
+        if tens % 2 == 1:
+            power *= square
+        square *= square
+        tens //= 2
     return power
 
 
@@ -53,3 +62,30 @@ def quotient_bits(above, below):
 def in_units(number, twos):
     """The number times 2 to the twos, or the number itself if they are below 0."""
     return number << max(twos, 0)
+
+
+def seventeen_digits(bits):
+    """A whole number of seventeen digits and the power of ten to take it times, half way up; 0 and 0 for 0.
+
+    Where the digits are rounded up to 10 to the 17, they are eighteen.
+    """
+    if bits == 0:
+        return (0, 0)
+    exponent = bits // LEADING_BIT
+    whole = bits if exponent == 0 else bits % LEADING_BIT + LEADING_BIT
+    twos = max(exponent, 1) - 1 - SMALLEST
+    above = in_units(whole, twos)
+    below = in_units(1, -twos)
+    tens = tens_of(above, below)
+    top = above * power_of_ten(-tens)
+    bottom = below * power_of_ten(tens)
+    return ((2 * top + bottom) // (2 * bottom), tens)
+
+
+def tens_of(above, below):
+    """The power of ten by which above divided by below has seventeen digits before its point."""
+    # Two to a power has about 30103 of 100000 as many digits as the power tells: this begins at or below the right one.
+    tens = (above.bit_length() - below.bit_length() - 1) * 30103 // 100000 - 17
+    while above * power_of_ten(-tens) >= OVERFULL_DIGITS * below * power_of_ten(tens):
+        tens += 1
+    return tens

@@ -1,4 +1,4 @@
-"""Days and moments, as texts tell them."""
+"""Days and moments: what texts tell of them, and the texts that tell them."""
 
 from strictask.refusals import NoValue
 from strictask.trees import Node
@@ -7,6 +7,9 @@ MONTH_DAYS = (31, 28, 31, 30, 31, 30, 31, 31, 30, 31, 30, 31)
 # The days from 0001-01-01 to 1970-01-01.
 DAYS_TO_1970 = 719162
 DAY_MICROSECONDS = 86400000000
+# After so many years the calendar goes round, and so many days have passed.
+ROUND_YEARS = 400
+ROUND_DAYS = 146097
 BLANK = 32
 HYPHEN = 45
 POINT = 46
@@ -53,11 +56,16 @@ def day_number(content):
     day = number_of(content[8:])
     if year < 1 or not 1 <= month <= 12 or not 1 <= day <= month_length(year, month):
         return None
-    past = year - 1
-    days = past * 365 + past // 4 - past // 100 + past // 400
+    days = days_before(year)
     for earlier in range(1, month):
         days += month_length(year, earlier)
     return days + day - 1 - DAYS_TO_1970
+
+
+def days_before(year):
+    """The days from 0001-01-01 to the year's first."""
+    past = year - 1
+    return past * 365 + past // 4 - past // 100 + past // 400
 
 
 def month_length(year, month):
@@ -92,3 +100,37 @@ def microseconds(content):
     if content[0] != POINT or not 1 <= len(digits) <= 6 or number_of(digits) < 0:
         return None
     return number_of(digits + [48] * (6 - len(digits)))
+
+
+def spelled_day(days):
+    """The day that is so many days behind 1970-01-01, as a text."""
+    passed = days + DAYS_TO_1970
+    year = year_of(passed)
+    rest = passed - days_before(year)
+    month = 1
+    while rest >= month_length(year, month):
+        rest -= month_length(year, month)
+        month += 1
+    return str(year).zfill(4) + "-" + two_digits(month) + "-" + two_digits(rest + 1)
+
+
+def year_of(passed):
+    """The year of the day that is so many days behind 0001-01-01."""
+    # As if all years were as long: the right one, or the one before it.
+    year = passed * ROUND_YEARS // ROUND_DAYS + 1
+    return year + 1 if days_before(year + 1) <= passed else year
+
+
+def two_digits(number):
+    """The number as a text of two digits."""
+    return str(number).zfill(2)
+
+
+def spelled_moment(passed):
+    """The moment that is so many microseconds behind 1970-01-01, as a text."""
+    days = passed // DAY_MICROSECONDS
+    seconds = passed % DAY_MICROSECONDS // 1000000
+    rest = passed % 1000000
+    clock = two_digits(seconds // 3600) + ":" + two_digits(seconds // 60 % 60) + ":" + two_digits(seconds % 60)
+    behind = "." + str(rest).zfill(6) if rest > 0 else ""
+    return spelled_day(days) + " " + clock + behind

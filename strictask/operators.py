@@ -1,7 +1,13 @@
-"""The words and signs that stand between operands, between questions and between sources."""
+"""The levels of expressions, and the words and signs between operands, between questions and between sources."""
 
 from strictask.lexemes import SIGN
 from strictask.lexemes import WORD
+
+NOT_LEVEL = 2
+COMPARISON_LEVEL = 3
+COMPARED_LEVEL = 4
+MINUS_LEVEL = 7
+OPERAND_LEVEL = 8
 
 # Operators that others of their level may follow: the level, and the number that the tree has for them.
 CHAIN_WORDS = {"or": (0, 3), "and": (1, 2)}

@@ -1,4 +1,4 @@
-"""What is asked of the program: a text is read."""
+"""What is asked of the program: a text is read, and said again."""
 
 from strictask.commands import command
 from strictask.cursor import Cursor
@@ -7,6 +7,8 @@ from strictask.lexing import lexed
 from strictask.refusals import NotEnded
 from strictask.refusals import Refusal
 from strictask.refusals import TooDeep
+from strictask.said_commands import spoken
+from strictask.speech import spelled_bytes
 from strictask.trees import written
 
 MOST_BYTES = 65536
@@ -18,8 +20,22 @@ def read(text):
     try:
         tree = tree_of(text)
     except Refusal as e:
-        return [e.number, e.place] + spelled_bytes(e.word)
+        return refusal_answer(e.number, e.place, e.word)
     return [0] + spelled_bytes(written(tree))
+
+
+def said(text):
+    """0 and the bytes of what is said of the tree, or an error as read answers it."""
+    try:
+        tree = tree_of(text)
+    except Refusal as e:
+        return refusal_answer(e.number, e.place, e.word)
+    return [0] + spoken(tree)
+
+
+def refusal_answer(number, place, word):
+    """An error's number, its place, and the bytes of its word or sign."""
+    return [number, place] + spelled_bytes(word)
 
 
 def tree_of(text):
@@ -33,8 +49,3 @@ def tree_of(text):
     if tree.depth > MOST_TREE_DEPTH:
         raise TooDeep(0)
     return tree
-
-
-def spelled_bytes(spelling):
-    """The bytes of a text of the program's own."""
-    return [ord(sign) for sign in spelling]

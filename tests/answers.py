@@ -1,6 +1,10 @@
-"""What the tests ask of read, and how they tell its answers."""
+"""What the tests ask of read and said, and how they tell the answers."""
 
-from strictask.reading import read
+from strictask.reading import read, said
+
+# What is said of a tree so deep at most, and has no more bytes than a text may have, is read as the same tree.
+DEEPEST_AGAIN = 20
+MOST_BYTES = 65536
 
 
 def as_bytes(text):
@@ -13,6 +17,27 @@ def answer(text):
     if given[0] == 0:
         return bytes(given[1:]).decode("ascii")
     return given[0], given[1], bytes(given[2:]).decode("ascii")
+
+
+def speech(text):
+    """What is said of the text as a str, or an error as (number, place, word)."""
+    given = said(list(as_bytes(text)))
+    if given[0] == 0:
+        return bytes(given[1:]).decode("utf-8")
+    return given[0], given[1], bytes(given[2:]).decode("ascii")
+
+
+def depth_of(tree):
+    """How deep a written tree is."""
+    deepest = 1
+    depth = 0
+    for at, sign in enumerate(tree):
+        if sign == "(":
+            depth += 1
+            deepest = max(deepest, depth if tree[at + 1] == ")" else depth + 1)
+        elif sign == ")":
+            depth -= 1
+    return deepest
 
 
 def hexed(name):
@@ -61,13 +86,32 @@ class Checks:
     def tree(self, text, tree):
         with self.subTest(text=text):
             self.assertEqual(answer(text), tree)
+            self.same_again(speech(text), tree)
+
+    def same_again(self, again, tree):
+        """What is said of this tree is read as the same tree, and said again as itself."""
+        self.assertIsInstance(again, str)
+        if depth_of(tree) <= DEEPEST_AGAIN and len(as_bytes(again)) <= MOST_BYTES:
+            self.assertEqual(answer(again), tree)
+            self.assertEqual(speech(again), again)
 
     def expr(self, text, tree):
         """What stands behind select has this tree."""
         self.tree("select " + text, ask(tree))
 
+    def says(self, text, wanted):
+        """Just this is said of the text."""
+        with self.subTest(text=text):
+            self.assertEqual(speech(text), wanted)
+            self.same_again(wanted, answer(text))
+
+    def says_expr(self, text, wanted):
+        """Just this is said of what stands behind select."""
+        self.says("select " + text, "select " + wanted)
+
     def wrong(self, text, number, word=""):
-        """The error is told at the place where ^ stands in the text."""
+        """The error is told at the place where ^ stands in the text, and said as it is read."""
         clean, place = place_of("^", text)
         with self.subTest(text=text):
             self.assertEqual(answer(clean), (number, place, word))
+            self.assertEqual(speech(clean), (number, place, word))

@@ -7,12 +7,14 @@ import random
 
 from answers import hexed
 
-NAMES = ("a", "b1", "_c", "key", "day", "index", '"Q u"', '"select"', '"a""b"', "Total", "x")
+NAMES = ("a", "b1", "_c", "key", "day", "index", '"Q u"', '"select"', '"a""b"', "Total", "x", '"\u00e9 (,"', '"."')
 VALUES = (
     ("0", "18(0)"), ("12", "18(12)"), ("9223372036854775808", "19(9223372036854775808 0)"), ("1.50", "19(150 2)"),
     ("2.5e1", "20(4627730092099895296)"), ("null", "16()"), ("true", "17(1)"), ("False", "17(0)"),
     ("'it''s'", "21('69742773)"),
-    ("''", "21(')"), ("x'0f'", "24('0f)"), ("X''", "24(')"),
+    ("''", "21(')"), ("x'0f'", "24('0f)"), ("X''", "24(')"), ("0.05", "19(5 2)"), ("00.0", "19(0 1)"),
+    ("'\n(\u20ac,\"--'", "21('0a28e282ac2c222d2d)"), ("0e7", "20(0)"), ("1E+98", "20(6072937571782577189)"),
+    ("4.9e-324", "20(1)"), ("0017", "18(17)"),
 )
 KINDS = (
     (["truth"], "1(1 0 0)"), (["Whole"], "1(2 0 0)"), (["exact", "(", "5", ",", "2", ")"], "1(3 5 2)"),
@@ -113,7 +115,9 @@ class Maker:
     def value(self, size=0):
         if self.maybe():
             word, text, tree = self.one_of([("day", "'1970-01-02'", "22(1)"),
-                                            ("moment", "'1970-01-01 00:00:01'", "23(1000000)")])
+                                            ("moment", "'1970-01-01 00:00:01'", "23(1000000)"),
+                                            ("Day", "'0001-01-01'", "22(-719162)"),
+                                            ("moment", "'1969-12-31 23:59:59.9'", "23(-100000)")])
             return [word, text], f"128({tree})"
         text, tree = self.one_of(VALUES)
         return [text], f"128({tree})"
@@ -275,10 +279,12 @@ class Maker:
 
     def plain_command(self, size):
         kind = self.one_of(["question", "question", "insert", "update", "delete", "table", "execute", "explain",
-                            "view"])
+                            "view", "short"])
         if kind in ("question", "explain"):
             tokens, tree = self.question(size)
             return (tokens, f"160({tree})") if kind == "question" else (["explain"] + tokens, f"186({tree})")
+        if kind == "short":
+            return self.one_of([self.begun, self.dropped, self.index, self.right])()
         name, written = self.name()
         if kind == "view":
             tokens, tree = self.question(size)
@@ -297,6 +303,48 @@ class Maker:
             return ["execute"] + name + ["("] + given + [")"], f"185({written} {trees})"
         parts, trees, count = self.some(lambda: self.part(size))
         return ["create", "table"] + name + ["("] + parts + [")"], f"168({written} {trees})"
+
+    def begun(self):
+        name, written = self.name()
+        return self.one_of([
+            (["begin"], "180(0)"), (["begin", "strict"], "180(1)"), (["Commit"], "181()"), (["rollback"], "182(')"),
+            (["rollback", "to"] + name, f"182({written})"), (["savepoint"] + name, f"183({written})"),
+            (["execute"] + name, f"185({written})"), (["analyze"], "187(')"),
+            (["analyze"] + name, f"187({written})"), (["checkpoint"], "188()"),
+            (["create", "user"] + name + ["password", "'a''b'"], f"177({written} '612762)"),
+        ])
+
+    def dropped(self):
+        name, written = self.name()
+        number = self.chance.randint(0, 3)
+        return ["drop", ("table", "index", "view", "user")[number]] + name, f"173({number} {written})"
+
+    def index(self):
+        name, written = self.name()
+        table, other = self.name()
+        if self.maybe():
+            column, third = self.name()
+            tokens = ["create", "text", "index"] + name + ["on"] + table + ["("] + column + [")"]
+            return tokens, f"175({written} {other} {third})"
+        unique = self.chance.randint(0, 1)
+        names, trees, count = self.some(self.name)
+        tokens = ["create"] + ["unique"] * unique + ["index"] + name + ["on"] + table + ["("] + names + [")"]
+        return tokens, f"174({written} {other} {unique} {trees})"
+
+    def right(self):
+        table, written = self.name()
+        user, other = self.name()
+        tokens, number = ["all"], 15
+        if self.maybe():
+            picked = [self.chance.randint(0, 3) for turn in range(self.chance.randint(1, 5))]
+            words = [("select", "insert", "update", "delete")[right] for right in picked]
+            tokens = " , ".join(words).split()
+            number = sum({1 << right for right in picked})
+        if self.maybe():
+            return ["revoke"] + tokens + ["on"] + table + ["from"] + user, f"179({number} {written} {other})"
+        passing = self.chance.randint(0, 1)
+        tokens = ["grant"] + tokens + ["on"] + table + ["to"] + user + ["with", "grant"] * passing
+        return tokens, f"178({number} {written} {other} {passing})"
 
     def setting(self, size):
         name, written = self.name()
@@ -351,19 +399,6 @@ class Maker:
         text, places = "", []
         for token in tokens:
             text += self.one_of([" ", " ", "\n", "\t\r", " -- remark '\n", "  "])
-            places.append(len(text))
+            places.append(len(text.encode("utf-8")))
             text += token
         return text, places
-
-
-def depth_of(tree):
-    """How deep a written tree is."""
-    deepest = 1
-    depth = 0
-    for at, sign in enumerate(tree):
-        if sign == "(":
-            depth += 1
-            deepest = max(deepest, depth if tree[at + 1] == ")" else depth + 1)
-        elif sign == ")":
-            depth -= 1
-    return deepest

@@ -4,9 +4,9 @@ import inspect
 import sys
 import unittest
 
-from strictask.reading import read
+from strictask.reading import read, said
 
-from answers import Checks, answer, as_bytes, ask, num
+from answers import Checks, answer, as_bytes, ask, num, speech
 
 TEXTS = (
     "select a between 1 and 2, f(distinct $3) over (order by b) from t left join u on c where d limit 5",
@@ -17,38 +17,48 @@ TEXTS = (
 
 class Calls(Checks, unittest.TestCase):
     def test_what_is_handed_in_stays_as_it_was(self):
-        for text in TEXTS:
-            handed = list(as_bytes(text))
-            before = list(handed)
-            read(handed)
-            self.assertEqual(handed, before)
+        for call in (read, said):
+            for text in TEXTS:
+                handed = list(as_bytes(text))
+                before = list(handed)
+                call(handed)
+                self.assertEqual(handed, before)
 
     def test_a_list_of_whole_numbers_comes_back(self):
-        for text in TEXTS:
-            given = read(list(as_bytes(text)))
-            self.assertIs(type(given), list)
-            self.assertTrue(all(type(number) is int for number in given), text)
-            self.assertTrue(0 <= given[0] <= 9)
-            self.assertTrue(all(0 <= number <= 255 for number in given[1 if given[0] == 0 else 2:]))
+        for call in (read, said):
+            for text in TEXTS:
+                given = call(list(as_bytes(text)))
+                self.assertIs(type(given), list)
+                self.assertTrue(all(type(number) is int for number in given), text)
+                self.assertTrue(0 <= given[0] <= 9)
+                self.assertTrue(all(0 <= number <= 255 for number in given[1 if given[0] == 0 else 2:]))
 
     def test_answers_number_by_number(self):
         self.assertEqual(read(list(b"commit")), [0] + list(b"181()"))
-        self.assertEqual(read(list(b"drop t")), [5, 5] + list(b"table"))
-        self.assertEqual(read(list(b"f")), [7, 0])
-        self.assertEqual(read([]), [7, 0])
+        self.assertEqual(said(list(b"COMMIT ")), [0] + list(b"commit"))
+        self.assertEqual(said(list(b"drop table a\n")), [0] + list(b'drop table "a"'))
+        self.assertEqual(said(list(b'analyze "\xe2\x82\xac"')), [0] + list(b'analyze "\xe2\x82\xac"'))
+        for call in (read, said):
+            self.assertEqual(call(list(b"drop t")), [5, 5] + list(b"table"))
+            self.assertEqual(call(list(b"select 1 from")), [3, 13])
+            self.assertEqual(call(list(b"f")), [7, 0])
+            self.assertEqual(call([]), [7, 0])
 
     def test_a_call_answers_as_if_for_the_first_time(self):
-        first = [read(list(as_bytes(text))) for text in TEXTS]
+        first = [(read(list(as_bytes(text))), said(list(as_bytes(text)))) for text in TEXTS]
         for turn in range(3):
-            for text, given in reversed(list(zip(TEXTS, first))):
-                self.assertEqual(read(list(as_bytes(text))), given)
+            for text, (tree, again) in reversed(list(zip(TEXTS, first))):
+                self.assertEqual(said(list(as_bytes(text))), again)
+                self.assertEqual(read(list(as_bytes(text))), tree)
 
     def test_what_came_back_is_the_callers_own(self):
-        handed = list(b"select 'a'")
-        given = read(handed)
-        wanted = list(given)
-        given.clear()
-        self.assertEqual(read(handed), wanted)
+        handed = list(b"select 'a' as b")
+        for call in (read, said):
+            given = call(handed)
+            wanted = list(given)
+            given.clear()
+            self.assertEqual(call(handed), wanted)
+            self.assertEqual(handed, list(b"select 'a' as b"))
 
     def test_a_text_of_65536_bytes_and_one_more(self):
         self.tree("select 1".ljust(65536), ask(num(1)))
@@ -57,11 +67,14 @@ class Calls(Checks, unittest.TestCase):
         self.assertEqual(answer(" " * 65536), (7, 65536, ""))
         self.assertEqual(answer(" " * 65537), (8, 0, ""))
         self.assertEqual(answer("select ".ljust(65536)), (2, 65536, ""))
+        self.assertEqual(speech("select 1".ljust(65537)), (8, 0, ""))
+        self.assertEqual(speech(" " * 65536), (7, 65536, ""))
 
     def test_a_text_that_is_too_long_is_told_before_all_else(self):
         for text in (b"!" * 65537, b"'" * 65537, b"\xff" * 100000, b"(" * 100000, b"a " * 50000,
                      b"select 1" + b" " * 99992):
             self.assertEqual(answer(text), (8, 0, ""))
+            self.assertEqual(speech(text), (8, 0, ""))
         self.assertEqual(answer(b"!" * 65536), (1, 0, ""))
         self.assertEqual(answer(b" " * 65535 + b"!"), (1, 65535, ""))
 
@@ -75,6 +88,44 @@ class Calls(Checks, unittest.TestCase):
                   ask("138(" + "128(18(1)) 128(18(1)) " * 4500 + "128(16()))"))
         self.tree("create table t (unique (a" + ",a" * 32000 + "))", "168('74 170(0 '61" + " '61" * 32000 + "))")
 
+    def test_what_is_said_of_long_lists(self):
+        for text, wanted in (
+            ("select 1" + ",1" * 32764, "select 1" + ", 1" * 32764),
+            ("insert into t values(1)" + ",(1)" * 16000, 'insert into "t" values (1)' + ", (1)" * 16000),
+            ("create table t(unique(a" + ",a" * 32000 + "))",
+             'create table "t" (unique ("a"' + ', "a"' * 32000 + "))"),
+            ("create table t(a day" + ",a day" * 9000 + ")", 'create table "t" ("a" day' + ', "a" day' * 9000 + ")"),
+            ("select case" + " when a then 1" * 4500 + " end",
+             "select case" + ' when "a" then 1' * 4500 + " else null end"),
+            ("select 1 in (1" + ",1" * 32000 + ")", "select 1 in (1" + ", 1" * 32000 + ")"),
+            ("update t set a=1" + ",a=1" * 16000, 'update "t" set "a" = 1' + ', "a" = 1' * 16000),
+            ("select 1 group by a" + ",a" * 32000 + " order by 1",
+             'select 1 group by "a"' + ', "a"' * 32000 + " order by 1"),
+            ("select 1 from t" + ",t" * 32000, 'select 1 from "t"' + ', "t"' * 32000),
+            ("select 1 order by a" + ",a" * 32000, 'select 1 order by "a"' + ', "a"' * 32000),
+            ("execute f(1" + ",1" * 32000 + ")", 'execute "f" (1' + ", 1" * 32000 + ")"),
+        ):
+            self.assertEqual(speech(text), wanted)
+
+    def test_what_is_said_may_be_longer_than_a_text(self):
+        self.assertEqual(speech("select 1e0" + ",1e0" * 16000),
+                         "select 10000000000000000e-16" + ", 10000000000000000e-16" * 16000)
+        between = "f(" + "1," * 100 + "1)"
+        wanted = '"f"(' + "1, " * 100 + "1)"
+        for turn in range(8):
+            wanted = f"({wanted})" if turn > 0 else wanted
+            between, wanted = f"({between} between 1 and 2)", f"{wanted} >= 1 and {wanted} <= 2"
+        self.assertGreater(len(wanted), 65536)
+        self.assertEqual(speech(f"select {between}"), f"select {wanted}")
+        self.assertEqual(speech(speech(f"select {between}")), (8, 0, ""))
+
+    def test_chains_as_long_as_the_text_goes(self):
+        for text in ("select a" + "+a" * 32000, "select a" + " or a" * 13000, "select 1" + " union select 1" * 4000,
+                     "select 1 from a" + " join a on a" * 5000):
+            self.assertEqual(speech(text), (8, 0, ""))
+        self.wrong("(" * 40 + "^" + "(" * 65000, 8)
+        self.wrong("select a" + "+a" * 32000 + "^)", 6)
+
     def test_long_tokens_and_blanks(self):
         self.tree("select " + "0" * 65528 + "1", ask(num(1)))
         self.tree("--\n" * 21800 + "commit", "181()")
@@ -84,6 +135,21 @@ class Calls(Checks, unittest.TestCase):
         self.wrong("select ^$" + "1" * 65000, 1)
         self.wrong("select ^1" + "." + "1" * 65000, 9)
         self.wrong("select a.a^" + ".a" * 32000, 6)
+
+    def deepest_said(self):
+        """Trees that are as deep as they may be, or nearly so."""
+        for text, wanted in (
+            ("select a" + "+a" * 34, 'select "a"' + ' + "a"' * 34),
+            ("select " + "a+(" * 34 + "a" + ")" * 34, 'select "a"' + ' + ("a"' * 33 + ' + "a"' + ")" * 33),
+            ("select " + "not " * 34 + "a", "select " + "not " * 34 + '"a"'),
+            ("select " + "f(" * 34 + "a" + ")" * 34, "select " + '"f"(' * 34 + '"a"' + ")" * 34),
+            ("select 1" + " union select 1" * 33, "select 1" + " union select 1" * 33),
+            ("(" * 33 + "select 1" + " limit 1)" * 33, "(" * 32 + "select 1" + " limit 1)" * 32 + " limit 1"),
+            ("select 1 from a" + " join a on a" * 35, 'select 1 from "a"' + ' join "a" on "a"' * 35),
+        ):
+            self.assertEqual(speech(text), wanted)
+        asked = 'exists (select "f"() over ( order by ' * 4 + "1" + "))" * 4
+        self.assertEqual(speech("select " + asked), "select " + asked)
 
     def test_what_is_deepest_takes_some_hundred_calls(self):
         """Python allows a thousand calls within one another, and some of them are the caller's."""
@@ -95,6 +161,7 @@ class Calls(Checks, unittest.TestCase):
                 self.assertEqual(answer("select " + ("1 or 1 and 1 = 1 || 1 + 1 * " + begin) * 41)[0], 8)
             for begin in ("not ", "- ", "1 not in (", "1 or 1 in (", "1 from (select "):
                 self.assertEqual(answer("select " + begin * 41)[0], 8)
+            self.deepest_said()
         finally:
             sys.setrecursionlimit(allowed)
 

@@ -2,8 +2,8 @@
 
 import unittest
 
-from answers import answer
-from maker import Maker, depth_of
+from answers import answer, as_bytes, depth_of
+from maker import Maker
 
 
 class Made(unittest.TestCase):
@@ -28,7 +28,7 @@ class Made(unittest.TestCase):
                 text, places = maker.spread(tokens[:count])
                 found = answer(text)
                 if not isinstance(found, str):
-                    self.assertEqual(found[1], len(text), text)
+                    self.assertEqual(found[1], len(as_bytes(text)), text)
 
     def test_a_kept_word_where_none_may_stand_is_wrong_at_its_place(self):
         """The word set stands behind update's table alone: anywhere else it is the first that is wrong."""
