@@ -1,5 +1,6 @@
 """A token: what it is, where it stands, and what it says."""
 
+# The kinds of tokens. Whoever asks for the tokens of a text is told just these numbers.
 WORD = 0
 QUOTED = 1
 NUMBER = 2

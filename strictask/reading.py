@@ -1,4 +1,4 @@
-"""What is asked of the program: a text is read, and said again."""
+"""What is asked of the program: a text is read, said again, and looked at token by token."""
 
 from strictask.commands import command
 from strictask.cursor import Cursor
@@ -33,16 +33,34 @@ def said(text):
     return [0] + spoken(tree)
 
 
+def tokens(text):
+    """0, then of each token, the end last, its place and its sort; or 1 and the place where none can be; or 8 and 0."""
+    try:
+        found = tokens_of(text)
+    except Refusal as e:
+        return refusal_answer(e.number, e.place, e.word)
+    answer = [0]
+    for token in found:
+        answer.append(token.place)
+        answer.append(token.kind)
+    return answer
+
+
 def refusal_answer(number, place, word):
     """An error's number, its place, and the bytes of its word or sign."""
     return [number, place] + spelled_bytes(word)
 
 
-def tree_of(text):
-    """The tree of the command that the text is."""
+def tokens_of(text):
+    """The tokens of a text that isn't too long."""
     if len(text) > MOST_BYTES:
         raise TooDeep(0)
-    cursor = Cursor(lexed(text))
+    return lexed(text)
+
+
+def tree_of(text):
+    """The tree of the command that the text is."""
+    cursor = Cursor(tokens_of(text))
     tree = command(cursor)
     if cursor.token.kind != END:
         raise NotEnded(cursor.token.place)

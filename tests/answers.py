@@ -1,6 +1,8 @@
-"""What the tests ask of read and said, and how they tell the answers."""
+"""What the tests ask of read, said and tokens, and how they tell the answers."""
 
-from strictask.reading import read, said
+from strictask.reading import read, said, tokens
+
+from token_reader import tokens_as_told
 
 # What is said of a tree so deep at most, and has no more bytes than a text may have, is read as the same tree.
 DEEPEST_AGAIN = 20
@@ -25,6 +27,14 @@ def speech(text):
     if given[0] == 0:
         return bytes(given[1:]).decode("utf-8")
     return given[0], given[1], bytes(given[2:]).decode("ascii")
+
+
+def listed(text):
+    """The tokens as pairs of a place and a sort, or an error as (number, place)."""
+    given = tokens(list(as_bytes(text)))
+    if given[0] == 0:
+        return list(zip(given[1::2], given[2::2], strict=True))
+    return tuple(given)
 
 
 def depth_of(tree):
@@ -86,6 +96,7 @@ class Checks:
     def tree(self, text, tree):
         with self.subTest(text=text):
             self.assertEqual(answer(text), tree)
+            self.has_tokens(text)
             self.same_again(speech(text), tree)
 
     def same_again(self, again, tree):
@@ -115,3 +126,13 @@ class Checks:
         with self.subTest(text=text):
             self.assertEqual(answer(clean), (number, place, word))
             self.assertEqual(speech(clean), (number, place, word))
+            if number == 1 or len(as_bytes(clean)) > MOST_BYTES:
+                self.assertEqual(listed(clean), (number, place))
+            else:
+                self.has_tokens(clean)
+
+    def has_tokens(self, text):
+        """The text is all tokens, whatever else may be wrong with it; these are they."""
+        found = tokens(list(as_bytes(text)))
+        self.assertEqual(found[0], 0)
+        self.assertEqual(found, tokens_as_told(as_bytes(text)))

@@ -4,7 +4,7 @@ import inspect
 import sys
 import unittest
 
-from strictask.reading import read, said
+from strictask.reading import read, said, tokens
 
 from answers import Checks, answer, as_bytes, ask, num, speech
 
@@ -12,12 +12,13 @@ TEXTS = (
     "select a between 1 and 2, f(distinct $3) over (order by b) from t left join u on c where d limit 5",
     "insert into t (a) values ('it''s', x'00ff', \"q\"\"q\")", "create table t (c exact(5, 2) not null default 1)",
     "select 1 ^", "select", "select '", "(" * 41, "commit", "", "x", "drop t", "select a" + "+a" * 40,
+    "select 1 !", "-- a\n \"b\"'c'x'00'$1 1.5e3 <>", "a".ljust(65537), "!" * 65537,
 )
 
 
 class Calls(Checks, unittest.TestCase):
     def test_what_is_handed_in_stays_as_it_was(self):
-        for call in (read, said):
+        for call in (read, said, tokens):
             for text in TEXTS:
                 handed = list(as_bytes(text))
                 before = list(handed)
@@ -33,6 +34,27 @@ class Calls(Checks, unittest.TestCase):
                 self.assertTrue(0 <= given[0] <= 9)
                 self.assertTrue(all(0 <= number <= 255 for number in given[1 if given[0] == 0 else 2:]))
 
+    def test_a_list_of_places_and_sorts_comes_back(self):
+        for text in TEXTS:
+            given = tokens(list(as_bytes(text)))
+            self.assertIs(type(given), list)
+            self.assertTrue(all(type(number) is int for number in given), text)
+            if given[0] == 0:
+                places, sorts = given[1::2], given[2::2]
+                self.assertEqual(places, sorted(set(places)))
+                self.assertEqual((places[-1], sorts[-1]), (len(as_bytes(text)), 7))
+                self.assertTrue(all(0 <= sort <= 6 for sort in sorts[:-1]), text)
+            else:
+                self.assertIn(given[0], (1, 8))
+                self.assertEqual(len(given), 2)
+                self.assertTrue(0 <= given[1] < len(as_bytes(text)))
+
+    def test_read_and_tokens_tell_the_same_of_tokens(self):
+        for text in TEXTS:
+            error = read(list(as_bytes(text)))
+            wrong = error[0] == 1 or len(as_bytes(text)) > 65536
+            self.assertEqual(tokens(list(as_bytes(text)))[:2] == error, wrong, text)
+
     def test_answers_number_by_number(self):
         self.assertEqual(read(list(b"commit")), [0] + list(b"181()"))
         self.assertEqual(said(list(b"COMMIT ")), [0] + list(b"commit"))
@@ -45,15 +67,15 @@ class Calls(Checks, unittest.TestCase):
             self.assertEqual(call([]), [7, 0])
 
     def test_a_call_answers_as_if_for_the_first_time(self):
-        first = [(read(list(as_bytes(text))), said(list(as_bytes(text)))) for text in TEXTS]
-        for turn in range(3):
-            for text, (tree, again) in reversed(list(zip(TEXTS, first))):
-                self.assertEqual(said(list(as_bytes(text))), again)
-                self.assertEqual(read(list(as_bytes(text))), tree)
+        first = [[call(list(as_bytes(text))) for call in (tokens, read, said)] for text in TEXTS]
+        for calls in ((said, read, tokens), (tokens, tokens, said, read), (read, tokens, said)):
+            for text, answers in reversed(list(zip(TEXTS, first))):
+                for call in calls:
+                    self.assertEqual(call(list(as_bytes(text))), answers[(tokens, read, said).index(call)])
 
     def test_what_came_back_is_the_callers_own(self):
         handed = list(b"select 'a' as b")
-        for call in (read, said):
+        for call in (read, said, tokens):
             given = call(handed)
             wanted = list(given)
             given.clear()

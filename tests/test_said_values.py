@@ -217,7 +217,8 @@ class Kinds(Checks, unittest.TestCase):
     def test_each_kind(self):
         for text, wanted in (
             ("truth", "truth"), ("WHOLE", "whole"), ("exact(5,2)", "exact(5, 2)"),
-            ("exact ( 36 , 36 )", "exact(36, 36)"), ("exact(1,0)", "exact(1, 0)"), ("Real", "real"), ("text(9)", "text(9)"), ("text (4096)", "text(4096)"),
+            ("exact ( 36 , 36 )", "exact(36, 36)"), ("exact(1,0)", "exact(1, 0)"), ("Real", "real"),
+            ("text(9)", "text(9)"), ("text (4096)", "text(4096)"),
             ("text(001)", "text(1)"), ("day", "day"), ("moment", "moment"), ("bytes(1)", "bytes(1)"),
             ("bytes ( 4096 )", "bytes(4096)"),
         ):
